@@ -1,0 +1,31 @@
+package fixnum
+
+import (
+	"errors"
+	"testing"
+
+	"quittance/api"
+)
+
+// answering is a face whose inside does what it is told to.
+func answering(inside func() int64) (v int64, errno api.Errno) {
+	defer func() { v, errno = settle(recover(), v) }()
+	return inside(), api.OK
+}
+
+func TestWhatIsThrownIsCaught(t *testing.T) {
+	for i, r := range []struct {
+		inside func() int64
+		v      int64
+		e      api.Errno
+	}{
+		{func() int64 { return 5 }, 5, api.OK},
+		{func() int64 { need(false, api.ErrArg); return 5 }, 0, api.ErrArg},
+		{func() int64 { return fitting(api.MaxMoney + 1) }, 0, api.ErrRange},
+		{func() int64 { panic(errors.New("another one")) }, 0, api.ErrRange},
+	} {
+		if v, e := answering(r.inside); v != r.v || e != r.e {
+			t.Errorf("R1, R4: the row %d: %d, error %d; want %d, %d", i, v, e, r.v, r.e)
+		}
+	}
+}
