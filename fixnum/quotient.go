@@ -4,18 +4,19 @@ import (
 	"math/bits"
 
 	"quittance/api"
+	"quittance/throw"
 )
 
 // quotient is a times b, by d, rounded by r; it throws what Divide and Ratio refuse.
 func (r Round) quotient(a, b, d int64) int64 {
-	need(r != Round{}, api.ErrArg)
-	need(d > 0, api.ErrArg)
+	throw.Need(r != Round{}, api.ErrArg)
+	throw.Need(d > 0, api.ErrArg)
 	high, low, below := multiply(a, b)
 	// bits.Div64 has no answer from 2^64 on, which would not fit anyway.
-	need(high < uint64(d), api.ErrRange)
+	throw.Need(high < uint64(d), api.ErrRange)
 	size, over := bits.Div64(high, low, uint64(d))
 	// Rounding never leads from outside of the bounds into them: they are whole numbers themselves.
-	need(size <= api.MaxMoney, api.ErrRange)
+	throw.Need(size <= api.MaxMoney, api.ErrRange)
 	floor, rest := signed(int64(size), below), int64(over)
 	if below && rest > 0 {
 		floor, rest = floor-1, d-rest

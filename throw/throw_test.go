@@ -1,27 +1,31 @@
-package fixnum
+package throw_test
 
 import (
 	"errors"
 	"testing"
 
 	"quittance/api"
+	"quittance/throw"
 )
 
 // answering is a face whose inside does what it is told to.
 func answering(inside func() int64) (v int64, errno api.Errno) {
-	defer func() { v, errno = settle(recover(), v) }()
+	defer func() { v, errno = throw.Settle(recover(), v) }()
 	return inside(), api.OK
 }
 
 func TestWhatIsThrownIsCaught(t *testing.T) {
+	lower := func(v int64, errno api.Errno) (int64, api.Errno) { return v, errno }
 	for i, r := range []struct {
 		inside func() int64
 		v      int64
 		e      api.Errno
 	}{
 		{func() int64 { return 5 }, 5, api.OK},
-		{func() int64 { need(false, api.ErrArg); return 5 }, 0, api.ErrArg},
-		{func() int64 { return fitting(api.MaxMoney + 1) }, 0, api.ErrRange},
+		{func() int64 { throw.Need(true, api.ErrArg); return 5 }, 5, api.OK},
+		{func() int64 { throw.Need(false, api.ErrArg); return 5 }, 0, api.ErrArg},
+		{func() int64 { return throw.Sure(lower(5, api.OK)) + 1 }, 6, api.OK},
+		{func() int64 { return throw.Sure(lower(0, api.ErrDay)) + 1 }, 0, api.ErrDay},
 		{func() int64 { panic(errors.New("another one")) }, 0, api.ErrRange},
 	} {
 		if v, e := answering(r.inside); v != r.v || e != r.e {
