@@ -31,6 +31,6 @@ func Settle[T any](thrown any, answer T) (T, api.Errno) {
 	if errno, ok := thrown.(api.Errno); ok {
 		return nothing, errno
 	}
-	// Only Need throws. Were there ever another panic, no call may let it out (R1), nor tell OK.
+	// Only errors are thrown. Were there ever another panic, no call may let it out (R1), nor tell OK.
 	return nothing, api.ErrRange
 }
