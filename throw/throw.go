@@ -1,17 +1,34 @@
-// Package throw is how the layers refuse from deep within: what fails is thrown as an api.Errno, and
-// caught at the face of the call, which defers
+// Package throw is how the layers refuse from deep within: what fails is thrown as an api.Errno, or as
+// one with its place, and caught at the face of the call, which defers
 //
 //	defer func() { answer, errno = throw.Settle(recover(), answer) }()
+//
+// or, if it tells places,
+//
+//	defer func() { answer, at, errno = throw.SettleAt(recover(), answer) }()
 package throw
 
 import (
 	"quittance/api"
 )
 
+// placed is an error, and where in what was given it lies.
+type placed struct {
+	errno api.Errno
+	at    int
+}
+
 // Need throws errno, unless ok.
 func Need(ok bool, errno api.Errno) {
 	if !ok {
 		panic(errno)
+	}
+}
+
+// NeedAt throws errno and its place, unless ok.
+func NeedAt(ok bool, errno api.Errno, at int) {
+	if !ok {
+		panic(placed{errno, at})
 	}
 }
 
@@ -24,13 +41,22 @@ func Sure[T any](answer T, errno api.Errno) T {
 // Settle turns what a face's recover has caught into that face's results: without a throw what was
 // answered, else nothing but the error.
 func Settle[T any](thrown any, answer T) (T, api.Errno) {
-	if thrown == nil {
-		return answer, api.OK
-	}
+	answer, _, errno := SettleAt(thrown, answer)
+	return answer, errno
+}
+
+// SettleAt is Settle for a face that tells the place of a fault: 0, where there is none, or none was
+// thrown.
+func SettleAt[T any](thrown any, answer T) (T, int, api.Errno) {
 	var nothing T
-	if errno, ok := thrown.(api.Errno); ok {
-		return nothing, errno
+	switch t := thrown.(type) {
+	case nil:
+		return answer, 0, api.OK
+	case api.Errno:
+		return nothing, 0, t
+	case placed:
+		return nothing, t.at, t.errno
 	}
 	// Only errors are thrown. Were there ever another panic, no call may let it out (R1), nor tell OK.
-	return nothing, api.ErrRange
+	return nothing, 0, api.ErrRange
 }

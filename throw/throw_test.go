@@ -33,3 +33,34 @@ func TestWhatIsThrownIsCaught(t *testing.T) {
 		}
 	}
 }
+
+// telling is a face that tells places, whose inside does what it is told to.
+func telling(inside func() int64) (v int64, at int, errno api.Errno) {
+	defer func() { v, at, errno = throw.SettleAt(recover(), v) }()
+	return inside(), 0, api.OK
+}
+
+func TestWhatIsThrownWithItsPlaceIsCaught(t *testing.T) {
+	for i, r := range []struct {
+		inside func() int64
+		v      int64
+		at     int
+		e      api.Errno
+	}{
+		{func() int64 { return 5 }, 5, 0, api.OK},
+		{func() int64 { throw.NeedAt(true, api.ErrToken, 7); return 5 }, 5, 0, api.OK},
+		{func() int64 { throw.NeedAt(false, api.ErrToken, 7); return 5 }, 0, 7, api.ErrToken},
+		{func() int64 { throw.NeedAt(false, api.ErrSyntax, 0); return 5 }, 0, 0, api.ErrSyntax},
+		{func() int64 { throw.Need(false, api.ErrRange); return 5 }, 0, 0, api.ErrRange},
+		{func() int64 { panic(errors.New("another one")) }, 0, 0, api.ErrRange},
+	} {
+		v, at, e := telling(r.inside)
+		if v != r.v || at != r.at || e != r.e {
+			t.Errorf("R1, R4: the row %d: %d, %d, error %d; want %d, %d, %d", i, v, at, e, r.v, r.at, r.e)
+		}
+		// A face that tells no places answers the same, without it.
+		if v, e := answering(r.inside); v != r.v || e != r.e {
+			t.Errorf("R1, R4: the row %d, without a place: %d, error %d; want %d, %d", i, v, e, r.v, r.e)
+		}
+	}
+}
