@@ -6,6 +6,10 @@
 // or, if it tells places,
 //
 //	defer func() { answer, at, errno = throw.SettleAt(recover(), answer) }()
+//
+// or, if it answers nothing but the error,
+//
+//	defer func() { errno = throw.SettleNone(recover()) }()
 package throw
 
 import (
@@ -43,6 +47,12 @@ func Sure[T any](answer T, errno api.Errno) T {
 func Settle[T any](thrown any, answer T) (T, api.Errno) {
 	answer, _, errno := SettleAt(thrown, answer)
 	return answer, errno
+}
+
+// SettleNone is Settle for a face that answers nothing but the error.
+func SettleNone(thrown any) api.Errno {
+	_, errno := Settle(thrown, struct{}{})
+	return errno
 }
 
 // SettleAt is Settle for a face that tells the place of a fault: 0, where there is none, or none was

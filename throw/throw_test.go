@@ -40,6 +40,13 @@ func telling(inside func() int64) (v int64, at int, errno api.Errno) {
 	return inside(), 0, api.OK
 }
 
+// checking is a face that answers nothing but the error, whose inside does what it is told to.
+func checking(inside func() int64) (errno api.Errno) {
+	defer func() { errno = throw.SettleNone(recover()) }()
+	inside()
+	return api.OK
+}
+
 func TestWhatIsThrownWithItsPlaceIsCaught(t *testing.T) {
 	for i, r := range []struct {
 		inside func() int64
@@ -61,6 +68,10 @@ func TestWhatIsThrownWithItsPlaceIsCaught(t *testing.T) {
 		// A face that tells no places answers the same, without it.
 		if v, e := answering(r.inside); v != r.v || e != r.e {
 			t.Errorf("R1, R4: the row %d, without a place: %d, error %d; want %d, %d", i, v, e, r.v, r.e)
+		}
+		// So does one that answers nothing but the error.
+		if e := checking(r.inside); e != r.e {
+			t.Errorf("R1: the row %d, with the error alone: %d; want %d", i, e, r.e)
 		}
 	}
 }
